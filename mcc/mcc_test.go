@@ -287,6 +287,36 @@ func TestCompile(t *testing.T) {
 	}
 }
 
+// P33.1, P33.5: as many nodes as there may be, each with many steps: with whatever options they are compiled.
+func TestMany(t *testing.T) {
+	const chans = 15
+	g := api.Graph{Input: [3]int{3, 3, chans}, Output: api.MaxNodes, Consts: []api.Const{{}, {Words: make([]int32, chans)}}}
+	seed := uint64(1)
+	for range chans * 9 * chans {
+		var n uint64
+		seed, n = family.Random(seed)
+		g.Consts[0].Bytes = append(g.Consts[0].Bytes, int8(n))
+	}
+	for i := range api.MaxNodes {
+		g.Nodes = append(g.Nodes, api.Node{Op: api.NConv, A: i, K: [2]int{3, 3}, S: [2]int{1, 1}, Pad: [4]int{1, 1, 1, 1}, M1: 1 << 30, S1: 6, Lo: -128, Hi: 127, Bias: 1, Chans: chans})
+	}
+	x := family.Input(g, 3)
+	want, _ := eval.Run(g, x)
+	for _, n := range []int{0, 1} {
+		m, _, err := mcc.Program(g, target, options(n))
+		if err != api.OK {
+			t.Fatal(n, err)
+		}
+		c, _ := load.Load(m)
+		load.Input(c, m, toBytes(x))
+		steps, trap := exec.Run(c, int(m.Fuel)+1)
+		out, _ := load.Output(c, m)
+		if trap != api.TrapBreak || uint64(steps) != m.Fuel || !bytes.Equal(out, toBytes(want)) {
+			t.Error(n, trap, steps)
+		}
+	}
+}
+
 // P33.2: targets of all sorts.
 func TestTargets(t *testing.T) {
 	g := family.Net(21, 6)
