@@ -119,6 +119,14 @@ func TestTooMany(t *testing.T) {
 	if n, err := cost.Steps(slices.Concat(nest(2), nest(1, most, most, most), nest(2))); n != 0 || err != api.ErrLong {
 		t.Error("a round in the midst", n, err)
 	}
+	for _, x := range []struct {
+		many int32
+		err  api.Errno
+	}{{30, api.OK}, {45, api.ErrLong}, {70, api.ErrLong}} {
+		if _, err := cost.Steps(slices.Concat([]api.Lop{loop(9, 1)}, nest(most, most, x.many), []api.Lop{end})); err != x.err {
+			t.Error(x, err)
+		}
+	}
 	big := nest(most, most, most, 3)
 	n := steps(t, big)
 	if n < 1<<52 || n > 1<<54 {
@@ -126,11 +134,74 @@ func TestTooMany(t *testing.T) {
 	}
 	// Side by side up to 2^62, and beyond.
 	fits := int((1 << 62) / (n + 10))
-	if _, err := cost.Steps(slices.Repeat(big, min(fits, 20000/len(big)))); err != api.OK {
-		t.Error(err)
+	for _, more := range []int{-1, 2, fits} {
+		got, err := cost.Steps(slices.Repeat(big, fits+more))
+		if more < 0 && (got == 0 || err != api.OK) || more > 0 && (got != 0 || err != api.ErrLong) {
+			t.Error("all", more, got, err)
+		}
 	}
-	if got, err := cost.Steps(slices.Repeat(big, 20000/len(big))); fits < 20000/len(big) && (got != 0 || err != api.ErrLong) {
-		t.Error("all", got, err)
+}
+
+// exactly tells steps that are as many as told, as a part of a program that has variables 0 to 5 and 20 already.
+func exactly(t *testing.T, want uint64) []api.Lop {
+	t.Helper()
+	vars := slices.Concat(nest(1, 1, 1, 1, 1, 1), []api.Lop{{Op: api.LAddi, D: 20, A: 20, Imm: 1}})
+	none := steps(t, vars)
+	of := func(l []api.Lop) uint64 { return steps(t, slices.Concat(vars, l)) - none }
+	var all []api.Lop
+	for _, outer := range [][]int32{{100000, 100000}, {100000}, {}} {
+		least := of(nest(append(slices.Clone(outer), 1)...))
+		each := of(nest(append(slices.Clone(outer), 2)...)) - least
+		for want >= least {
+			many := min((want-least)/each+1, 100000)
+			part := nest(append([]int32{int32(many)}, outer...)...)
+			if of(part) > want {
+				many--
+				if many == 0 {
+					break
+				}
+				part = nest(append([]int32{int32(many)}, outer...)...)
+			}
+			all = append(all, part...)
+			want -= of(part)
+		}
+	}
+	for range want {
+		all = append(all, api.Lop{Op: api.LAddi, D: 20, A: 20, Imm: 1})
+	}
+	return all
+}
+
+// P19.1: just as many steps as there may be, and one more.
+func TestMost(t *testing.T) {
+	one := []api.Lop{{Op: api.LAddi, D: 20, A: 20, Imm: 1}}
+	// The loop's own two instructions are a part of its round.
+	round := exactly(t, 1<<40-2)
+	within := func(n int32, l []api.Lop) []api.Lop { return slices.Concat([]api.Lop{loop(6, n)}, l, []api.Lop{end}) }
+	a, b := steps(t, within(1, round)), steps(t, within(2, round))
+	if b-a != 1<<40 {
+		t.Fatal("not as many", b-a)
+	}
+	if n, err := cost.Steps(within(1, append(round, one...))); n != 0 || err != api.ErrLong {
+		t.Error(n, err)
+	}
+	// 2^62 is 2^22 such rounds, but for what stands about them.
+	var all []api.Lop
+	rounds := uint64(1<<22 - 1)
+	for rounds > 0 {
+		n := min(rounds, 100000)
+		all = append(all, within(int32(n), round)...)
+		rounds -= n
+	}
+	all = append(all, exactly(t, 1<<62-steps(t, all)-1000)...)
+	for steps(t, all) < 1<<62 {
+		all = append(all, one...)
+	}
+	if n := steps(t, all); n != 1<<62 {
+		t.Error(n)
+	}
+	if n, err := cost.Steps(append(all, one...)); n != 0 || err != api.ErrLong {
+		t.Error(n, err)
 	}
 }
 

@@ -183,6 +183,9 @@ func TestLoadsAndStores(t *testing.T) {
 		want := api.Event{PC: 0x1000, Word: word}
 		if trap == 0 {
 			want.Kind, want.Addr, want.Size = api.DidStore, x.at+uint32(x.n), len(bytes.Trim(x.want, "\x00"))
+			if c.PC() != 0x1004 {
+				t.Error(i, c.PC())
+			}
 		} else if look(c) != before {
 			t.Error(i, "changed")
 		}

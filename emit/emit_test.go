@@ -243,6 +243,17 @@ func TestProgram(t *testing.T) {
 		l = append(l, api.Lop{Op: api.LAddi, D: v, A: v, Imm: int32(v)})
 	}
 	hold(t, l)
+	// Numbers about the greatest ones that loads and stores have, and no sum of them with what lies on.
+	for _, n := range []int32{-2050, -2049, -2048, -2047, 2046, 2047, 2048, 2049, 4095, 4096, -4096, -1 << 31} {
+		for op := api.LLoad8; op <= api.LStore32; op++ {
+			x := api.Lop{Op: op, A: 1, Imm: n}
+			if op >= api.LStore8 {
+				x.B = 2
+			}
+			hold(t, []api.Lop{set(1, ram+8-n), set(2, -77), x})
+			hold(t, []api.Lop{set(1, ram+8-n), set(2, -77), {Op: api.LAddi, D: 3, A: 1, Imm: n}, x})
+		}
+	}
 	// A loop that is longer than a branch reaches.
 	for _, many := range []int{500, 1020, 1023, 1024, 3000, 9000} {
 		l := append([]api.Lop{loop(0, 3)}, slices.Repeat([]api.Lop{{Op: api.LAddi, D: 1, A: 1, Imm: 1}, {Op: api.LAddi, D: 2, A: 1, Imm: 5000}}, many)...)

@@ -191,6 +191,8 @@ func TestByHand(t *testing.T) {
 		{one([3]int{1, 1, 1}, api.Node{Op: api.NPad, Pad: [4]int{1, 1, 0, 0}, Zo: -7}), []int8{3}, []int8{-7, -7, -7, 3}},
 		{one([3]int{1, 1, 1}, api.Node{Op: api.NFull, M1: 1 << 30, Lo: -128, Hi: 127, Zo: 1, Chans: 2, Bias: 1}, api.Const{Bytes: []int8{2, -2}}, api.Const{Words: []int32{1 << 28, 4}}), []int8{10}, []int8{127, -7}},
 		{one([3]int{1, 1, 1}, api.Node{Op: api.NAdd, M1: 1 << 30, M2: 1<<31 - 1, S1: 15, S2: 31, Za: 2, Lo: -128, Hi: 127}), []int8{10}, []int8{8}},
+		{one([3]int{1, 1, 1}, api.Node{Op: api.NAdd, M1: 1 << 30, S1: 16, Za: 127, Zb: -128, Lo: -128, Hi: 127}), []int8{-128}, []int8{-127}},
+		{one([3]int{1, 1, 1}, api.Node{Op: api.NAdd, M2: 1 << 30, S2: 16, Zb: -127, Lo: -128, Hi: 127}), []int8{127}, []int8{127}},
 		{one([3]int{1, 1, 1}, api.Node{Op: api.NMul, M1: 1 << 30, S1: 1, Za: -1, Zb: 1, Lo: -128, Hi: 127}), []int8{10}, []int8{25}},
 		{api.Graph{Input: [3]int{1, 1, 2}}, []int8{4, -4}, []int8{4, -4}},
 	} {

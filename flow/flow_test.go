@@ -52,6 +52,36 @@ func TestNext(t *testing.T) {
 	}
 }
 
+// P42.1, P42.2, P42.4: each operation.
+func TestOperations(t *testing.T) {
+	for op := api.Add; op <= api.Ops; op++ {
+		i := api.Ins{Op: op}
+		branch := op >= api.Beq && op <= api.Bgeu
+		if branch || op == api.Jal {
+			i.Imm = -4
+		}
+		words := []uint32{addi, word(i), addi}
+		var want []int
+		if branch || op == api.Jal {
+			want = append(want, 0)
+		}
+		ends := op == api.Jal || op == api.Ecall || op == api.Ebreak || op == api.Jalr
+		if !ends {
+			want = append(want, 2)
+		}
+		next, ok := flow.Next(words, 1)
+		if !slices.Equal(next, want) || ok != (op != api.Jalr) {
+			t.Error(op, next, ok)
+		}
+		if spans := flow.Spans(words); len(spans) > 1 != (branch || ends) {
+			t.Error(op, spans)
+		}
+		if back := flow.Back(words); len(back) > 0 != (branch || op == api.Jal) {
+			t.Error(op, back)
+		}
+	}
+}
+
 // P42.2
 func TestSpans(t *testing.T) {
 	span := func(from, to int, next ...int) api.Span { return api.Span{From: from, To: to, Next: next} }

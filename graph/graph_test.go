@@ -63,7 +63,7 @@ func TestWriteWrong(t *testing.T) {
 			g.Nodes = nil
 			g.Consts = []api.Const{{Words: make([]int32, 65536)}, {Words: make([]int32, 65536)}, {Words: make([]int32, 65536)}, {Words: make([]int32, 65536-15)}}
 		},
-		func(g *api.Graph) { g.Output = -1 << 31 }, func(g *api.Graph) { g.Nodes[0].Shape[2] = 1<<31 - 1 },
+		func(g *api.Graph) { *g = whole(0) }, func(g *api.Graph) { g.Output = -1 << 31 }, func(g *api.Graph) { g.Nodes[0].Shape[2] = 1<<31 - 1 },
 	}
 	for i, change := range good {
 		g := sample()
@@ -85,7 +85,7 @@ func TestWriteWrong(t *testing.T) {
 			g.Nodes = nil
 			g.Consts = []api.Const{{Words: make([]int32, 65536)}, {Words: make([]int32, 65536)}, {Words: make([]int32, 65536)}, {Words: make([]int32, 65536-14)}}
 		}, api.ErrLong},
-		{func(g *api.Graph) { g.Output = 1 << 31 }, api.ErrLong}, {func(g *api.Graph) { g.Input[0] = -1<<31 - 1 }, api.ErrLong}, {func(g *api.Graph) { g.Nodes[1].Pad[3] = 1 << 40; g.Consts[2] = both }, api.ErrLong}, {func(g *api.Graph) { g.Consts[2] = both }, api.ErrForm},
+		{func(g *api.Graph) { *g = whole(1) }, api.ErrLong}, {func(g *api.Graph) { g.Output = 1 << 31 }, api.ErrLong}, {func(g *api.Graph) { g.Input[0] = -1<<31 - 1 }, api.ErrLong}, {func(g *api.Graph) { g.Nodes[1].Pad[3] = 1 << 40; g.Consts[2] = both }, api.ErrLong}, {func(g *api.Graph) { g.Consts[2] = both }, api.ErrForm},
 	} {
 		g := sample()
 		x.change(&g)
@@ -104,6 +104,18 @@ func TestWriteWrong(t *testing.T) {
 			}
 		}
 	}
+}
+
+// whole is a network of just as many bytes as there may be, and so many more.
+func whole(more int) api.Graph {
+	g := api.Graph{Nodes: make([]api.Node, 40)}
+	left := api.MaxFile - 28 - 40*27*4 + more
+	for left > 0 {
+		n := min(left-8, 65536)
+		g.Consts = append(g.Consts, api.Const{Bytes: make([]int8, n)})
+		left -= n + 8
+	}
+	return g
 }
 
 func normal(g api.Graph) api.Graph {

@@ -63,6 +63,14 @@ func TestValid(t *testing.T) {
 		func(m *api.Image) { m.Segs = append(m.Segs, eight(5)...) },
 		func(m *api.Image) { m.Text = api.Region{Addr: flash + 4, Size: 28}; m.Entry = flash + 28 },
 		func(m *api.Image) { m.Fuel = 1<<64 - 1 },
+		// One right behind the other, either way.
+		func(m *api.Image) {
+			m.Input, m.Output = api.Region{Addr: ram + 3, Size: 5}, api.Region{Addr: ram, Size: 3}
+			m.Writes[1].Addr, m.Writes[1].Size = ram+8, 4
+		},
+		func(m *api.Image) { m.Writes[2] = api.Region{Addr: ram + 200, Size: 24} },
+		func(m *api.Image) { m.Segs[2].Addr = ram + 221 },
+		func(m *api.Image) { m.Stack = api.Region{Addr: ram + 64, Size: 16} },
 	} {
 		m := full()
 		change(&m)
@@ -73,6 +81,11 @@ func TestValid(t *testing.T) {
 	}
 	if !image.Valid(bare()) {
 		t.Error("bare")
+	}
+	low := bare()
+	low.Target.Flash, low.Entry, low.Text.Addr, low.Segs[0].Addr = 0, 0, 0, 0
+	if !image.Valid(low) {
+		t.Error("at 0")
 	}
 }
 

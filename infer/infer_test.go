@@ -121,6 +121,22 @@ func TestShapes(t *testing.T) {
 	if shapes, err := infer.Shapes(api.Graph{Input: [3]int{1, 2, 3}}); !slices.Equal(shapes, [][3]int{{1, 2, 3}}) || err != api.OK {
 		t.Error(shapes, err)
 	}
+	for _, op := range []int{api.NConv, api.NFull} {
+		for _, chans := range []int{1, 64} {
+			g, out := net(op)
+			n := &g.Nodes[0]
+			g.Consts[n.W].Bytes = make([]int8, len(g.Consts[n.W].Bytes)/n.Chans*chans)
+			g.Consts[n.Bias].Words = make([]int32, chans)
+			n.Chans, out[2] = chans, chans
+			if shapes, err := infer.Shapes(g); err != api.OK || shapes[1] != out {
+				t.Error(op, chans, err)
+			}
+		}
+	}
+	full := api.Graph{Input: [3]int{64, 64, 1}, Output: 1, Consts: []api.Const{bytes(4096), words(1)}, Nodes: []api.Node{{Op: api.NFull, Chans: 1, Bias: 1}}}
+	if _, err := infer.Shapes(full); err != api.OK {
+		t.Error(err)
+	}
 	many := api.Graph{Input: [3]int{1, 2, 3}, Output: 300}
 	for i := range 300 {
 		many.Nodes = append(many.Nodes, api.Node{Op: api.NClamp, A: i})

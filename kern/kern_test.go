@@ -7,6 +7,7 @@ import (
 
 	"pintle/api"
 	"pintle/asm"
+	"pintle/cost"
 	"pintle/cpu"
 	"pintle/emit"
 	"pintle/eval"
@@ -125,6 +126,17 @@ func (s scene) look(t *testing.T) int {
 	return steps
 }
 
+// cost tells how many steps a machine needs for a job.
+func (s scene) cost(t *testing.T) uint64 {
+	t.Helper()
+	l, _ := kern.Code(s.job)
+	n, err := cost.Steps(l)
+	if err != api.OK {
+		t.Fatal(err)
+	}
+	return n
+}
+
 // watch runs a job's steps on a machine, and looks at each place that it goes to.
 func (s scene) watch(t *testing.T) {
 	t.Helper()
@@ -178,6 +190,9 @@ func TestCode(t *testing.T) {
 			if few, many := wide.look(t), plain.look(t); few > many {
 				t.Error("wide does more", op, seed, few, many)
 			}
+			if few, many := wide.cost(t), plain.cost(t); few > many {
+				t.Error("wide needs more", op, seed, few, many)
+			}
 			if seed < 25 {
 				plain.watch(t)
 				wide.watch(t)
@@ -222,11 +237,12 @@ func TestWindows(t *testing.T) {
 		if _, err := infer.Shapes(g); err != api.OK {
 			continue
 		}
-		for _, wide := range []bool{false, true} {
-			s := sceneOf(t, g, seed, wide)
-			s.look(t)
-			s.watch(t)
+		wide, plain := sceneOf(t, g, seed, true), sceneOf(t, g, seed, false)
+		if wide.look(t) > plain.look(t) || wide.cost(t) > plain.cost(t) {
+			t.Error("wide does more", n)
 		}
+		wide.watch(t)
+		plain.watch(t)
 	}
 }
 

@@ -23,11 +23,9 @@ func (c *coder) window(k kernel) {
 	n := c.Node
 	l, _ := window.Inside([2]int{c.A[0], c.A[1]}, n.K, n.S, n.Pad)
 	rows, columns := c.Out[0], c.Out[1]
-	if l == [4]int{} {
-		c.judged(k, area{0, rows, 0, columns})
-		return
+	if l != [4]int{} {
+		c.whole(k, area{l[0], l[1], l[2], l[3]})
 	}
-	c.whole(k, area{l[0], l[1], l[2], l[3]})
 	for _, a := range [4]area{{0, l[0], 0, columns}, {l[1], rows, 0, columns}, {l[0], l[1], 0, l[2]}, {l[0], l[1], l[3], columns}} {
 		if a.y0 < a.y1 && a.x0 < a.x1 {
 			c.judged(k, a)

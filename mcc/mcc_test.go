@@ -216,6 +216,26 @@ func TestPlain(t *testing.T) {
 	}
 }
 
+// P33.2: what lies in an image, byte by byte; values that are held on while another one takes over, or lies elsewhere.
+func TestLaid(t *testing.T) {
+	g := api.Graph{Input: [3]int{1, 1, 2}, Output: 1, Consts: []api.Const{{Bytes: []int8{1, -2}}, {Words: []int32{0x0a0b0c0d}}}, Nodes: []api.Node{{Op: api.NFull, M1: 1 << 30, S1: 24, Lo: -128, Hi: 127, Bias: 1, Chans: 1}}}
+	for _, n := range []int{0, 16} {
+		m, _ := look(t, g, options(n), 5)
+		found := false
+		for _, s := range m.Segs {
+			found = found || bytes.Equal(s.Data, []byte{1, 0xfe, 0, 0, 0x0d, 0x0c, 0x0b, 0x0a})
+		}
+		if !found {
+			t.Error("the constants are not there", n, m.Segs)
+		}
+	}
+	clamp := func(a, hi int) api.Node { return api.Node{Op: api.NClamp, A: a, Lo: -hi, Hi: hi} }
+	held := api.Graph{Input: [3]int{1, 1, 6}, Nodes: []api.Node{clamp(0, 100), clamp(1, 50), clamp(0, 10), clamp(3, 9), {Op: api.NConcat, A: 2, B: 4}}, Output: 5}
+	for n := range 32 {
+		look(t, held, options(n), 7)
+	}
+}
+
 // P33.1: the errors, in their order.
 func TestErrors(t *testing.T) {
 	g := family.Net(9, 6)

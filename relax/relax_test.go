@@ -40,7 +40,7 @@ func TestCheck(t *testing.T) {
 		l   []api.Item
 		err api.Errno
 	}{
-		{nil, api.OK}, {list(nop, label(1), branch(1), jump(1), set(31, -5), label(-7), label(1<<40)), api.OK}, {list(branch(3), label(3)), api.OK},
+		{nil, api.OK}, {list(nop, label(1), branch(1), jump(1), set(31, -5), set(1, 5), label(-7), label(1<<40)), api.OK}, {list(branch(3), label(3)), api.OK},
 		{list(api.Item{Kind: api.ItemBranch, Ins: api.Ins{Op: api.Beq}}, label(0)), api.OK}, {list(api.Item{Kind: api.ItemBranch, Ins: api.Ins{Op: api.Bgeu, Rs1: 1, Rs2: 31}}, label(0)), api.OK}, {list(api.Item{Kind: api.ItemJump, Ins: api.Ins{Op: api.Jal, Rd: 1}}, label(0)), api.OK},
 		{list(api.Item{Kind: api.ItemIns, Ins: api.Ins{Op: api.Beq, Imm: 8}}), api.OK},
 		{list(api.MaxItems), api.OK}, {list(api.MaxItems, bad), api.ErrLong}, {list(api.MaxItems, label(1), label(1)), api.ErrLong},

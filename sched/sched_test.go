@@ -114,11 +114,65 @@ func slow(g api.Graph) []int {
 	}
 }
 
+// branchy is a network whose values have many sizes and are read here and there, all of them needed.
+func branchy(seed uint64) api.Graph {
+	next := func(n int) int {
+		var x uint64
+		seed, x = family.Random(seed)
+		return int(x % uint64(n))
+	}
+	g := net(0)
+	sizes := []int{2}
+	read := map[int]int{}
+	put := func(n api.Node, size int) {
+		for _, v := range infer.Inputs(n) {
+			read[v]++
+		}
+		g.Nodes = append(g.Nodes, n)
+		sizes = append(sizes, size)
+	}
+	for len(g.Nodes) < 12 {
+		a, b := next(len(sizes)), next(len(sizes))
+		switch next(6) {
+		case 0:
+			put(constant, 2)
+		case 1:
+			put(argmax(a), 1)
+		case 2:
+			put(clamp(a), sizes[a])
+		default:
+			if sizes[a]+sizes[b] <= 30 {
+				put(concat(a, b), sizes[a]+sizes[b])
+			}
+		}
+	}
+	// What nobody reads is brought to one element, and all of these together.
+	last := -1
+	for v := 1; v <= 12; v++ {
+		if read[v] > 0 {
+			continue
+		}
+		put(argmax(v), 1)
+		if last >= 0 {
+			put(concat(last, len(g.Nodes)), sizes[last]+1)
+		}
+		last = len(g.Nodes)
+	}
+	g.Output = last
+	return g
+}
+
 // P28.2, P28.3, P28.4
 func TestByChance(t *testing.T) {
-	for seed := range uint64(400) {
+	for seed := range uint64(1200) {
 		g := family.Net(seed, 12)
 		g.Output = int(seed*7) % 13
+		if seed%3 > 0 {
+			g = branchy(seed)
+		}
+		if seed%3 > 1 {
+			g.Output = 1 + int(seed)%len(g.Nodes)
+		}
 		order, err := sched.Order(g)
 		if err != api.OK || !slices.Equal(order, slow(g)) {
 			t.Fatal(seed, order, slow(g), err)

@@ -32,7 +32,7 @@ func run(t *testing.T, lines ...string) string {
 func TestWrong(t *testing.T) {
 	for _, line := range []string{
 		" ", "compile ", " compile", "compile x", "Compile", "compil", "family", "family 1", "family 1 2 3", "family 1  2", "family 01 2", "family 1 02", "family -1 2", "family +1 2", "family 1 4294967296", "family 18446744073709551616 1", "family x 1", "one 4294967296 1", "one 1", "one 1 18446744073709551616",
-		"target 1 2 3", "target 1 2 3 4 5", "target 1 2 3 4294967296", "target 1 2 3 00", "options", "options ", "options uw", "options ww", "options x", "options --", "options -w", "options w-", "options w u", "options W", "eval", "eval 1 2", "run", "run -1", "watch", "watch 0x1", "report 1", "nodes 1", "list", "list 4294967296", "list -1", "nodes\r", "\t", "#", "run 1.",
+		"target 1 2 3", "target 1 2 3 4 5", "target 1 2 3 4294967296", "target 4294967296 2 3 4", "target 1 4294967296 3 4", "target 1 2 4294967296 4", "target 1 2 3 00", "options", "options ", "options uw", "options ww", "options x", "options --", "options -w", "options w-", "options w u", "options W", "eval", "eval 1 2", "run", "run -1", "watch", "watch 0x1", "report 1", "nodes 1", "list", "list 4294967296", "list -1", "nodes\r", "\t", "#", "run 1.",
 	} {
 		for _, s := range []string{line, "compile\n" + line, line + "\n", "compile\n" + line + "\ncompile\n"} {
 			if out, err := shell.Run(s); out != "" || err != api.ErrForm {
